@@ -1,0 +1,1 @@
+"""Leasefiles: a file server with leases."""

@@ -1,0 +1,103 @@
+"""Points 2 to 4: what holds of all functions of the package."""
+
+import unittest
+
+from leasefiles import basics, texts
+from leasefiles.errors import BadText, LeaseError, NoEdit, NoText, NoThing, Unfit
+from tests.samples import all_values, nested
+
+JUDGES = [basics.is_name, basics.is_text, basics.is_edit, basics.is_stamp]
+# Each function of one argument with the one error that it may raise.
+OTHERS = [(texts.packed, NoThing), (texts.unpacked, BadText), (texts.check, NoText), (texts.sealed, NoThing)]
+
+
+def outcome(function, *arguments):
+    """What a call returned, or the error that it raised, so that two outcomes can be compared."""
+    try:
+        return ("told", function(*arguments))
+    except LeaseError as error:
+        return ("raised", type(error), getattr(error, "place", None))
+
+
+class Judging(unittest.TestCase):
+    def test_flags_for_all_values(self):
+        for judge in JUDGES:
+            for value in all_values():
+                self.assertIn(judge(value), (True, False))
+                self.assertIsInstance(judge(value), bool)
+
+    def test_flags_are_no_integers(self):
+        for flag in (True, False):
+            self.assertIs(basics.is_stamp((flag, flag, flag)), False)
+            self.assertIs(basics.is_edit(("adopt", flag, 1)), False)
+            self.assertIs(basics.is_edit(("splice", flag, 0, "")), False)
+            with self.assertRaises(NoThing):
+                texts.packed(flag)
+            with self.assertRaises(NoThing):
+                texts.packed((1, flag))
+
+    def test_lists_are_no_tuples(self):
+        self.assertIs(basics.is_stamp([1, 1, 1]), False)
+        self.assertIs(basics.is_edit(["put", "a"]), False)
+        with self.assertRaises(NoEdit):
+            basics.edited("a", ["put", "b"])
+        for thing in ([], [1], ([],), (1, [2])):
+            with self.assertRaises(NoThing):
+                texts.packed(thing)
+
+
+class Errors(unittest.TestCase):
+    def test_only_the_named_error_for_all_values(self):
+        for function, error in OTHERS:
+            for value in all_values():
+                told = outcome(function, value)
+                self.assertTrue(told[0] == "told" or told[1] is error, (function, told))
+        for value in all_values():
+            self.assertIsInstance(texts.unsealed(value), tuple)
+
+    def test_arguments_are_checked_from_left_to_right(self):
+        for text in all_values():
+            for edit in all_values():
+                if text is None or basics.is_text(text):
+                    self.assertEqual(outcome(basics.edited, text, edit)[1], NoEdit)
+                else:
+                    self.assertEqual(outcome(basics.edited, text, edit)[1], NoText)
+        self.assertEqual(outcome(basics.edited, None, ("remove",))[1], Unfit)
+
+
+class Changes(unittest.TestCase):
+    def test_nothing_handed_in_is_changed(self):
+        for function in JUDGES + [function for function, _ in OTHERS] + [texts.unsealed]:
+            for value in all_values():
+                shown = repr(value)
+                outcome(function, value)
+                self.assertEqual(repr(value), shown)
+        for value in all_values():
+            shown = repr(value)
+            outcome(basics.edited, value, value)
+            outcome(basics.edited, "a", value)
+            self.assertEqual(repr(value), shown)
+
+    def test_equal_calls_give_equal_results(self):
+        for function in JUDGES + [function for function, _ in OTHERS] + [texts.unsealed]:
+            for value, again in zip(all_values(), all_values()):
+                self.assertEqual(outcome(function, value), outcome(function, again))
+        for edit in [("put", "b"), ("splice", 1, 0, "c"), ("remove",), ("splice", 9, 9, "")]:
+            self.assertEqual(outcome(basics.edited, "a", edit), outcome(basics.edited, "a", edit))
+
+
+class Depth(unittest.TestCase):
+    def test_no_call_raises_recursion_error(self):
+        for kind in (list, tuple, dict):
+            value = nested(kind, 30)
+            for function in JUDGES + [function for function, _ in OTHERS] + [texts.unsealed]:
+                outcome(function, value)
+                outcome(function, ("put", value))
+        for text in ("(" * 20000, "(1," * 6000, "~" * 20000, "'~" * 10000, "-" * 20000, "(" * 19000 + "#5"):
+            outcome(texts.unpacked, text)
+            outcome(texts.unsealed, text)
+            outcome(texts.check, text)
+
+
+if __name__ == "__main__":
+    unittest.main()
