@@ -1,4 +1,4 @@
-"""Names, texts, edits and stamps, and what an edit makes of a text."""
+"""Names, texts, edits, stamps and other small parts of what is judged, and what an edit makes of a text."""
 
 from leasefiles.errors import NoEdit, NoText, Unfit
 
@@ -6,6 +6,8 @@ LONGEST_NAME = 8
 LONGEST_TEXT = 96
 LAST_CLIENT = 9
 FIRST_STAMP = (0, 0, 0)
+KINDS = ("read", "write")
+DONE_WORDS = ("applied", "aside", "unfit", "dropped")
 
 
 def is_whole(thing):
@@ -16,6 +18,16 @@ def is_whole(thing):
 def is_whole_from(thing, least):
     """Whether thing is an integer that is not below least."""
     return is_whole(thing) and thing >= least
+
+
+def is_count(thing):
+    """Whether thing is an integer from 0 on."""
+    return is_whole_from(thing, 0)
+
+
+def is_number(thing):
+    """Whether thing is an integer from 1 on, as the numbers of writes are."""
+    return is_whole_from(thing, 1)
 
 
 def is_client(thing):
@@ -50,6 +62,31 @@ def is_stamp(thing):
         return True
     # False == 0, so the items are looked at before the triple is compared.
     return is_whole(count) and is_whole(client) and is_whole(number) and thing == FIRST_STAMP
+
+
+def is_base(thing):
+    """Whether thing is what an edit may be based on: a stamp, or None."""
+    return thing is None or is_stamp(thing)
+
+
+def is_text_or_none(thing):
+    """Whether thing is what a file has, or None where there is none."""
+    return thing is None or is_text(thing)
+
+
+def is_kind(thing):
+    """Whether thing is a kind of leases."""
+    return isinstance(thing, str) and thing in KINDS
+
+
+def is_done_word(thing):
+    """Whether thing is what a server tells of a write that is done."""
+    return isinstance(thing, str) and thing in DONE_WORDS
+
+
+def is_talk(thing):
+    """Whether thing is a talk, by which letters and their answers are known."""
+    return isinstance(thing, tuple) and len(thing) == 2 and is_count(thing[0]) and is_count(thing[1])
 
 
 def is_worded(thing):
@@ -111,3 +148,31 @@ def spliced(text, at, gone, other):
     if len(made) > LONGEST_TEXT:
         raise Unfit()
     return made
+
+
+JUDGES = {
+    "count": is_count,
+    "number": is_number,
+    "client": is_client,
+    "name": is_name,
+    "text": is_text_or_none,
+    "stamp": is_stamp,
+    "base": is_base,
+    "edit": is_edit,
+    "kind": is_kind,
+    "talk": is_talk,
+    "word": is_done_word,
+}
+
+
+def is_part(thing, part):
+    """Whether thing is what the word for a part asks for."""
+    judge = JUDGES[part]
+    return judge(thing)
+
+
+def has_form(thing, form):
+    """Whether thing is a tuple of just the parts for which a form has the words."""
+    if not isinstance(thing, tuple) or len(thing) != len(form):
+        return False
+    return all([is_part(item, part) for item, part in zip(thing, form)])

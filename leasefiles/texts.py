@@ -27,6 +27,15 @@ def packed_within(thing, around):
     raise NoThing()
 
 
+def is_thing(thing, around):
+    """Whether thing is a thing that may stand within so many tuples."""
+    try:
+        packed_within(thing, around)
+    except NoThing:
+        return False
+    return True
+
+
 def quoted(text):
     """The text of a string."""
     # The tildes go first: those that stand ahead of quotes are not to be doubled.
@@ -109,12 +118,21 @@ def tuple_at(text, place, around):
         place += 1
 
 
+def is_lined(thing):
+    """Whether thing is a text of any length of signs from the blank to ~ and line feeds."""
+    return isinstance(thing, str) and has_plain_signs(thing.replace("\n", ""))
+
+
 def check(text):
     """The check of a text of signs from the blank to ~ and line feeds."""
-    if not isinstance(text, str) or not has_plain_signs(text.replace("\n", "")):
+    if not is_lined(text):
         raise NoText()
-    total = 0
-    for place, sign in enumerate(text, start=1):
+    return check_behind(0, 0, text)
+
+
+def check_behind(total, many, text):
+    """The check of so many signs, which have the check total, and of this text behind them."""
+    for place, sign in enumerate(text, start=many + 1):
         if sign != "\n":
             # The blank, whose code is 32, has the number 1.
             total += place * (ord(sign) - 31)

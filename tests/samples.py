@@ -1,5 +1,6 @@
 """Values of all kinds that may be handed in where something is judged."""
 
+from leasefiles.disks import Disk
 from leasefiles.errors import BadText, LeaseError, NoItem, NoText
 
 PLAIN_SIGNS = "".join([chr(code) for code in range(32, 127)])
@@ -22,7 +23,7 @@ def mixed(deep):
 
 
 def package_objects():
-    return [LeaseError(), NoText(), BadText(3), NoItem([1, 2])]
+    return [LeaseError(), NoText(), BadText(3), NoItem([1, 2]), Disk()]
 
 
 def not_strings():

@@ -2,13 +2,41 @@
 
 import unittest
 
-from leasefiles import basics, texts
-from leasefiles.errors import BadText, LeaseError, NoEdit, NoText, NoThing, Unfit
+from leasefiles import basics, disks, letters, tables, texts
+from leasefiles.errors import (
+    BadText, LeaseError, NoArea, NoDeed, NoEdit, NoItems, NoName, NoNumber, NoTable, NoText, NoThing, Unfit,
+)
 from tests.samples import all_values, nested
 
-JUDGES = [basics.is_name, basics.is_text, basics.is_edit, basics.is_stamp]
+JUDGES = [basics.is_name, basics.is_text, basics.is_edit, basics.is_stamp, tables.is_table, tables.is_deed,
+          letters.is_letter]
 # Each function of one argument with the one error that it may raise.
 OTHERS = [(texts.packed, NoThing), (texts.unpacked, BadText), (texts.check, NoText), (texts.sealed, NoThing)]
+
+
+def on_disk(function):
+    """A function that is handed a disk on which area 0 stands."""
+    def call(*arguments):
+        disk = disks.Disk()
+        disks.opened(disk)
+        return function(disk, *arguments)
+    return call
+
+
+# Functions and methods of several arguments: right arguments, and the error that is named for each.
+CALLS = [
+    (basics.edited, ("a", ("put", "b")), (NoText, NoEdit)),
+    (on_disk(disks.Disk.area), (0,), (NoArea,)),
+    (on_disk(disks.Disk.append), (1, "a", 1), (NoArea, NoText, NoNumber)),
+    (on_disk(disks.Disk.clear), (0,), (NoArea,)),
+    (on_disk(disks.Disk.shorten), (0, 0), (NoArea, NoNumber)),
+    (on_disk(disks.noted), (1, 1), (NoItems, NoNumber)),
+    (on_disk(disks.kept), ((1,), 1), (NoItems, NoNumber)),
+    (disks.lines, ("a",), (NoText,)),
+    (disks.rest, ("a",), (NoText,)),
+    (tables.behind, ((0, (), (), (), ()), ("tick",)), (NoTable, NoDeed)),
+    (tables.file_of, ((0, (), (), (), ()), "a"), (NoTable, NoName)),
+]
 
 
 def outcome(function, *arguments):
@@ -64,6 +92,27 @@ class Errors(unittest.TestCase):
                     self.assertEqual(outcome(basics.edited, text, edit)[1], NoText)
         self.assertEqual(outcome(basics.edited, None, ("remove",))[1], Unfit)
 
+    def test_only_the_error_that_is_named_for_an_argument(self):
+        for function, arguments, errors in CALLS:
+            self.assertEqual(outcome(function, *arguments)[0], "told")
+            for k, error in enumerate(errors):
+                for value in all_values():
+                    told = outcome(function, *arguments[:k], value, *arguments[k + 1:])
+                    self.assertTrue(told[0] == "told" or told[1] in (error, Unfit), (function, k, told))
+                    if isinstance(value, LeaseError):
+                        self.assertEqual(told[1], error)
+
+    def test_of_wrong_arguments_the_first_one_counts(self):
+        wrong = LeaseError()
+        for function, arguments, errors in CALLS:
+            for k, error in enumerate(errors):
+                many = len(arguments) - k
+                self.assertEqual(outcome(function, *arguments[:k], *[wrong] * many)[1], error)
+                for other in range(k + 1, len(arguments)):
+                    handed = list(arguments)
+                    handed[k] = handed[other] = wrong
+                    self.assertEqual(outcome(function, *handed)[1], error)
+
 
 class Changes(unittest.TestCase):
     def test_nothing_handed_in_is_changed(self):
@@ -77,6 +126,12 @@ class Changes(unittest.TestCase):
             outcome(basics.edited, value, value)
             outcome(basics.edited, "a", value)
             self.assertEqual(repr(value), shown)
+        for function, arguments, _ in CALLS:
+            for k in range(len(arguments)):
+                for value in all_values():
+                    shown = repr((arguments, value))
+                    outcome(function, *arguments[:k], value, *arguments[k + 1:])
+                    self.assertEqual(repr((arguments, value)), shown)
 
     def test_equal_calls_give_equal_results(self):
         for function in JUDGES + [function for function, _ in OTHERS] + [texts.unsealed]:
@@ -84,6 +139,8 @@ class Changes(unittest.TestCase):
                 self.assertEqual(outcome(function, value), outcome(function, again))
         for edit in [("put", "b"), ("splice", 1, 0, "c"), ("remove",), ("splice", 9, 9, "")]:
             self.assertEqual(outcome(basics.edited, "a", edit), outcome(basics.edited, "a", edit))
+        for function, arguments, _ in CALLS:
+            self.assertEqual(outcome(function, *arguments), outcome(function, *arguments))
 
 
 class Depth(unittest.TestCase):
@@ -93,6 +150,10 @@ class Depth(unittest.TestCase):
             for function in JUDGES + [function for function, _ in OTHERS] + [texts.unsealed]:
                 outcome(function, value)
                 outcome(function, ("put", value))
+            for function, arguments, _ in CALLS:
+                for k in range(len(arguments)):
+                    outcome(function, *arguments[:k], value, *arguments[k + 1:])
+                    outcome(function, *arguments[:k], (value, value), *arguments[k + 1:])
         for text in ("(" * 20000, "(1," * 6000, "~" * 20000, "'~" * 10000, "-" * 20000, "(" * 19000 + "#5"):
             outcome(texts.unpacked, text)
             outcome(texts.unsealed, text)
