@@ -125,6 +125,11 @@ def is_edit(thing):
     return False
 
 
+def names_in(name, edit):
+    """The names that a write of an edit at a name names, that name first."""
+    return (name, edit[1]) if edit[0] == "take" else (name,)
+
+
 def edited(text, edit):
     """The text, or None, that a put, splice or remove makes of a text or None."""
     if text is not None and not is_text(text):

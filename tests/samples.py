@@ -1,5 +1,6 @@
 """Values of all kinds that may be handed in where something is judged."""
 
+from leasefiles.clients import Client
 from leasefiles.disks import Disk
 from leasefiles.errors import BadText, LeaseError, NoItem, NoText
 
@@ -23,7 +24,7 @@ def mixed(deep):
 
 
 def package_objects():
-    return [LeaseError(), NoText(), BadText(3), NoItem([1, 2]), Disk()]
+    return [LeaseError(), NoText(), BadText(3), NoItem([1, 2]), Disk(), Client(1, (0, 0, ()))]
 
 
 def not_strings():

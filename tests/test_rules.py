@@ -2,14 +2,15 @@
 
 import unittest
 
-from leasefiles import basics, disks, letters, tables, texts
+from leasefiles import basics, clients, disks, letters, serving, sheets, tables, texts, values
 from leasefiles.errors import (
-    BadText, LeaseError, NoArea, NoDeed, NoEdit, NoItems, NoName, NoNumber, NoTable, NoText, NoThing, Unfit,
+    BadText, LeaseError, NoArea, NoClient, NoDeed, NoEdit, NoItems, NoLetter, NoName, NoNote, NoNumber, NoNumbers, NoOp,
+    NoPlaces, NoPolynomial, NoPrime, NoSheet, NoStamp, NoTable, NoText, NoThing, NoValues, Unfit,
 )
 from tests.samples import all_values, nested
 
 JUDGES = [basics.is_name, basics.is_text, basics.is_edit, basics.is_stamp, tables.is_table, tables.is_deed,
-          letters.is_letter]
+          letters.is_letter, sheets.is_sheet, sheets.is_note]
 # Each function of one argument with the one error that it may raise.
 OTHERS = [(texts.packed, NoThing), (texts.unpacked, BadText), (texts.check, NoText), (texts.sealed, NoThing)]
 
@@ -23,6 +24,26 @@ def on_disk(function):
     return call
 
 
+def on_client(function):
+    """A function that is handed a client that has a view and a pending write."""
+    def call(*arguments):
+        client = clients.Client(1, (1, 1, ((1, "b", None, ("remove",)),)))
+        client.begin(("lease", "a", "write"))
+        client.take((1, "server", (1, 1), "granted", ("a", "write", (1, 1, 1), "x")))
+        told = outcome(function, client, *arguments)
+        state = [client.sheet(), client.running(), client.result(), client.quick("a"), client.cache(), client.again()]
+        if told[0] == "raised":
+            # An operation that raises an error changes nothing.
+            fresh = on_client(lambda client: client.copy())()
+            assert state == [fresh.sheet(), fresh.running(), fresh.result(), fresh.quick("a"), fresh.cache(),
+                             fresh.again()]
+            raise told[1]()
+        return told[1] if isinstance(told[1], clients.Client) else (told[1], state)
+    return call
+
+
+BARE = (0, (), (), (), ())
+
 # Functions and methods of several arguments: right arguments, and the error that is named for each.
 CALLS = [
     (basics.edited, ("a", ("put", "b")), (NoText, NoEdit)),
@@ -34,8 +55,19 @@ CALLS = [
     (on_disk(disks.kept), ((1,), 1), (NoItems, NoNumber)),
     (disks.lines, ("a",), (NoText,)),
     (disks.rest, ("a",), (NoText,)),
-    (tables.behind, ((0, (), (), (), ()), ("tick",)), (NoTable, NoDeed)),
-    (tables.file_of, ((0, (), (), (), ()), "a"), (NoTable, NoName)),
+    (tables.behind, (BARE, ("tick",)), (NoTable, NoDeed)),
+    (tables.file_of, (BARE, "a"), (NoTable, NoName)),
+    (serving.serve, (BARE, ("server", 1, (0, 1), "names", ())), (NoTable, NoLetter)),
+    (sheets.noted_behind, ((0, 0, ()), ("boot",)), (NoSheet, NoNote)),
+    (lambda *arguments: clients.Client(*arguments).again(), (1, (0, 0, ())), (NoClient, NoSheet)),
+    (on_client(clients.Client.begin), (("hold", "a", ("put", "y")),), (NoOp,)),
+    (on_client(clients.Client.take), ((1, "server", (0, 0), "recall", ("a",)),), (NoLetter,)),
+    (on_client(clients.Client.quick), ("a",), (NoName,)),
+    (values.values, (7, (1, 2), (3, 4)), (NoPrime, NoNumbers, NoPlaces)),
+    (values.roots, (7, (1, 1), (0, 4)), (NoPrime, NoPolynomial, NoNumbers)),
+    (values.difference, (7, (1, 2), 2, (3, 4), (1, 1), 2),
+     (NoPrime, NoNumbers, NoNumber, NoPlaces, NoValues, NoNumber)),
+    (values.number_of, ("a", (1, 1, 1)), (NoName, NoStamp)),
 ]
 
 
@@ -98,7 +130,8 @@ class Errors(unittest.TestCase):
             for k, error in enumerate(errors):
                 for value in all_values():
                     told = outcome(function, *arguments[:k], value, *arguments[k + 1:])
-                    self.assertTrue(told[0] == "told" or told[1] in (error, Unfit), (function, k, told))
+                    # What is right for this argument may make a later one wrong.
+                    self.assertTrue(told[0] == "told" or told[1] in errors[k:] + (Unfit,), (function, k, told))
                     if isinstance(value, LeaseError):
                         self.assertEqual(told[1], error)
 
