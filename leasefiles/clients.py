@@ -36,7 +36,6 @@ class Client:
         self._talks = 0
         self._views = {}
         self._called = {}
-        self._given = {}
         self._files = {}
         self._operation = None
         self._letter = None
@@ -121,7 +120,6 @@ class Client:
         other._talks = self._talks
         other._views = dict(self._views)
         other._called = dict(self._called)
-        other._given = dict(self._given)
         other._files = dict(self._files)
         other._operation = self._operation
         other._letter = self._letter
@@ -171,11 +169,11 @@ class Client:
         self._asked = self._ticks
 
     def _say_give(self, turn, name):
-        """Writes a give letter for a name, and tells it; what was asked ahead of it no more counts."""
+        """Writes a give letter for a name, and tells it."""
         letter = self._say(turn, "give", (name,))
-        self._given[name] = letter[2]
         self._drop_view(name)
         op = self._operation
+        # What is granted to a letter ahead of the give does not count: its talk is no more the operation's.
         if self._letter is not None and op[0] == "lease" and op[1] == name:
             self._ask(turn, "lease", op[1:])
         return letter
@@ -282,9 +280,7 @@ class Client:
     def _read_granted(self, parts):
         """Reads that a lease was granted."""
         name, kind, stamp, text = parts
-        # A lease that was asked for ahead of a give may be gone again.
-        given = name in self._given and self._given[name] >= self._letter[2]
-        if self._operation[1:] != (name, kind) or given:
+        if self._operation[1:] != (name, kind):
             return
         self._remember(((name, stamp, text),))
         self._views[name] = (kind, self._asked, stamp, text)

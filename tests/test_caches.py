@@ -198,6 +198,11 @@ class Refresh(unittest.TestCase):
             client = Client(1, (2, 0, ()))
             client.begin(("refresh",))
             self.assertEqual(client.take(told("values", (2, 0, sums), 1)), ((), (asked("sums", (4,), 2),)))
+        # Nought, however it is told, is no value, though here z - P + 1 would part the lots.
+        for sums in [(0, P - 1), (P, P - 1), (2 * P, P - 1), (0, 2 * P - 1)]:
+            client = Client(1, (2, 0, ()))
+            client.begin(("refresh",))
+            self.assertEqual(client.take(told("values", (2, 1, sums), 1)), ((), (asked("sums", (4,), 2),)))
         client = Client(1, (2, 0, ()))
         client.begin(("refresh",))
         self.assertEqual(client.take(told("values", (2, 0, (P - 1, 1)), 1)), ((), (asked("sums", (4,), 2),)))

@@ -692,6 +692,26 @@ class Copies(Asking):
         self.assertIsNone(twin.running())
         self.assert_turn(client.take(done(1)), [("settled", 1)], [asked("give", ("a",), 4)])
 
+    def test_clocks_are_copied(self):
+        fresh = risen().copy()
+        self.assertEqual((fresh.again(), fresh.running(), fresh.result()), (NOTHING, None, None))
+        client = leased("read")
+        client.tick()
+        client.tick()
+        twin = client.copy()
+        self.assertEqual(twin.quick("a"), (STAMP, "old"))
+        twin.tick()
+        self.assertIsNone(twin.quick("a"))
+        self.assertEqual(client.quick("a"), (STAMP, "old"))
+        client.begin(("lease", "b", "read"))
+        twin = client.copy()
+        twin.tick()
+        twin.take(told("granted", ("b", "read", STAMP, "x"), 2))
+        twin.tick()
+        self.assertEqual(twin.quick("b"), (STAMP, "x"))
+        twin.tick()
+        self.assertIsNone(twin.quick("b"))
+
     def test_each_part_of_a_client_is_copied(self):
         client = leased("write", "a", STAMP, "old", leased("read", "b", FIRST, None))
         twin = client.copy()
