@@ -109,6 +109,15 @@ class Client:
             raise NoName()
         return self._views[name][2:] if self._is_trusted(name) else None
 
+    def trusted_views(self):
+        """The tuples (name, kind, stamp, text) of the views that are trusted, ascending."""
+        views = []
+        for name in sorted(self._views):
+            if self._is_trusted(name):
+                kind, _, stamp, text = self._views[name]
+                views.append((name, kind, stamp, text))
+        return tuple(views)
+
     def cache(self):
         """The files that letters told, ascending."""
         return tuple([(name,) + self._files[name] for name in sorted(self._files)])

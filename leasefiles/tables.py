@@ -75,6 +75,12 @@ def file_of(table, name):
     return file_at(table, name)
 
 
+def done_number(table, client):
+    """The greatest number of a client's writes that is done, 0 if none is, in what surely is a table."""
+    last = row_of(table[3], (client,))
+    return 0 if last is None else last[1]
+
+
 def behind_grant(table, deed):
     """The table behind a grant."""
     clock, files, leases, done, asides = table

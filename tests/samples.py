@@ -3,6 +3,8 @@
 from leasefiles.clients import Client
 from leasefiles.disks import Disk
 from leasefiles.errors import BadText, LeaseError, NoItem, NoText
+from leasefiles.shop import Shop
+from leasefiles.world import World
 
 PLAIN_SIGNS = "".join([chr(code) for code in range(32, 127)])
 
@@ -24,7 +26,7 @@ def mixed(deep):
 
 
 def package_objects():
-    return [LeaseError(), NoText(), BadText(3), NoItem([1, 2]), Disk(), Client(1, (0, 0, ()))]
+    return [LeaseError(), NoText(), BadText(3), NoItem([1, 2]), Disk(), Client(1, (0, 0, ())), World(2), Shop(1)]
 
 
 def not_strings():
