@@ -30,13 +30,8 @@ def numbers_of_writes(deeds):
 
 
 def stamps_of_writes(deeds):
-    """The dict from (client, number) of each write that made files to the list of their (name, stamp)."""
-    stamps = {}
-    for deed in server_deeds(deeds):
-        made = [(name, stamp) for name, stamp, _ in files_by(deed)]
-        if len(made) > 0:
-            stamps[deed[1:3]] = made
-    return stamps
+    """The dict from (client, number) of each write that is done to the list of (name, stamp) of the files it made."""
+    return {deed[1:3]: [(name, stamp) for name, stamp, _ in files_by(deed)] for deed in server_deeds(deeds)}
 
 
 def end_moment(end):

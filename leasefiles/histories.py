@@ -12,7 +12,7 @@ def is_call(thing):
     if not isinstance(thing, tuple) or len(thing) != 5:
         return False
     kind, name, told, begin, end = thing
-    if not isinstance(kind, str) or kind not in CALL_KINDS or not isinstance(name, str):
+    if kind not in CALL_KINDS or not isinstance(name, str):
         return False
     if not is_thing(told, 0) or (told is None and kind == "write"):
         return False
@@ -103,30 +103,23 @@ def takes_place(call):
     return is_write(call) or has_ended(call)
 
 
-def write_of(history, read):
-    """The write of the name of a read that wrote what it tells, or None."""
-    for call in history:
-        if is_write(call) and call[1:3] == read[1:3]:
-            return call
+def write_of(history, call):
+    """The write of the name of a call that wrote what this tells, or None; of a write this is itself."""
+    for other in history:
+        if is_write(other) and other[1:3] == call[1:3]:
+            return other
     return None
-
-
-def is_read_of_something(call):
-    """Whether a call is an ended read that doesn't tell None."""
-    return not is_write(call) and has_ended(call) and call[2] is not None
 
 
 def is_strange(history, indexes):
     """Whether this is an ended read of what no write of its name wrote."""
     read = history[indexes[0]]
-    return is_read_of_something(read) and write_of(history, read) is None
+    return has_ended(read) and read[2] is not None and write_of(history, read) is None
 
 
 def is_early(history, indexes):
     """Whether this is a read that ended ahead of the begin of the write of what it tells."""
     read = history[indexes[0]]
-    if not is_read_of_something(read):
-        return False
     write = write_of(history, read)
     return write is not None and ended_ahead(read, write)
 
@@ -134,7 +127,8 @@ def is_early(history, indexes):
 def is_late(history, indexes):
     """Whether the first call needs a write ahead of the second one, a read of nothing, and ended ahead of it."""
     call, read = history[indexes[0]], history[indexes[1]]
-    if is_write(read) or not has_ended(read) or read[2] is not None or call[1] != read[1]:
+    # No write tells None.
+    if not has_ended(read) or read[2] is not None or call[1] != read[1]:
         return False
     return call[2] is not None and takes_place(call) and ended_ahead(call, read)
 

@@ -1,7 +1,7 @@
 """Watching a world: what its clients trust, what is wrong with it, and what is still owed."""
 
-from leasefiles.basics import edited, is_text_edit
-from leasefiles.errors import Unfit
+from leasefiles.basics import edited
+from leasefiles.errors import NoEdit, Unfit
 from leasefiles.rows import row_of
 from leasefiles.tables import done_number, file_at, is_in_force
 
@@ -34,11 +34,9 @@ def with_pending(table, client, sheet, name):
         # What the server has done already, though its client has not heard of it, is in the file.
         if written != name or number <= done_number(table, client):
             continue
-        if not is_text_edit(edit):
-            return ()
         try:
             text = edited(text, edit)
-        except Unfit:
+        except (NoEdit, Unfit):
             return ()
         stamp = (stamp[0] + 1, client, number)
     return (stamp, text)

@@ -187,7 +187,9 @@ class Statements(unittest.TestCase):
         for name, node in nodes(ast.Try):
             self.assertEqual(node.finalbody, [], name)
             for handler in node.handlers:
-                self.assertIn(handler.type.id, errors, name)
+                caught = handler.type.elts if isinstance(handler.type, ast.Tuple) else [handler.type]
+                for error in caught:
+                    self.assertIn(error.id, errors, name)
         for name, node in nodes(ast.Raise):
             self.assertIn(node.exc.func.id, errors, name)
 

@@ -2,17 +2,22 @@
 
 import unittest
 
-from leasefiles import basics, clients, disks, letters, serving, sheets, tables, texts, values
+from leasefiles import (
+    basics, clients, days, disks, histories, letters, machines, serving, sheets, shop, tables, texts, values, world,
+)
 from leasefiles.errors import (
-    BadText, LeaseError, NoArea, NoClient, NoDeed, NoEdit, NoItems, NoLetter, NoName, NoNote, NoNumber, NoNumbers, NoOp,
-    NoPlaces, NoPolynomial, NoPrime, NoSheet, NoStamp, NoTable, NoText, NoThing, NoValues, Unfit,
+    BadText, LeaseError, NoArea, NoClient, NoDay, NoDeed, NoDisk, NoEdit, NoEvent, NoHistory, NoItems, NoKind, NoLetter,
+    NoMachine, NoName, NoNote, NoNumber, NoNumbers, NoOp, NoPlaces, NoPolynomial, NoPrime, NoSheet, NoStamp, NoTable,
+    NoText, NoThing, NoValues, Unfit,
 )
 from tests.samples import all_values, nested
+from tests.worlds import after, client_state, leased, state
 
 JUDGES = [basics.is_name, basics.is_text, basics.is_edit, basics.is_stamp, tables.is_table, tables.is_deed,
-          letters.is_letter, sheets.is_sheet, sheets.is_note]
+          letters.is_letter, sheets.is_sheet, sheets.is_note, histories.is_history]
 # Each function of one argument with the one error that it may raise.
-OTHERS = [(texts.packed, NoThing), (texts.unpacked, BadText), (texts.check, NoText), (texts.sealed, NoThing)]
+OTHERS = [(texts.packed, NoThing), (texts.unpacked, BadText), (texts.check, NoText), (texts.sealed, NoThing), (histories.right_order, NoHistory), (histories.bar, NoHistory),
+          (machines.table_of, NoDisk), (machines.sheet_of, NoDisk)]
 
 
 def on_disk(function):
@@ -42,7 +47,37 @@ def on_client(function):
     return call
 
 
+def on_world(function):
+    """A function that is handed a world in which a view is trusted, a write is held, and client 3 is down."""
+    def call(*arguments):
+        handed = after(leased(3), ("do", 1, ("hold", "a", ("put", "x"))), ("do", 2, ("look", "a")), ("fall", 3))
+        before = state(handed)
+        told = outcome(function, handed, *arguments)
+        if told[0] == "raised":
+            # An operation that raises an error changes nothing.
+            assert state(handed) == before
+            raise told[1]()
+        return (client_state(told[1]) if isinstance(told[1], clients.Client) else told[1], state(handed))
+    return call
+
+
+def on_shop(function):
+    """A function that is handed a shop in which a write is held."""
+    def call(*arguments):
+        handed = shop.Shop(2)
+        handed.lease(1, "a", "write")
+        handed.hold(1, "a", ("put", "x"))
+        before = state(handed.world())
+        told = outcome(function, handed, *arguments)
+        if told[0] == "raised":
+            assert state(handed.world()) == before
+            raise told[1]()
+        return (told[1], state(handed.world()))
+    return call
+
+
 BARE = (0, (), (), (), ())
+HISTORY = (("write", "a", 1, 0, 2), ("read", "a", 1, 1, 3))
 
 # Functions and methods of several arguments: right arguments, and the error that is named for each.
 CALLS = [
@@ -68,6 +103,23 @@ CALLS = [
     (values.difference, (7, (1, 2), 2, (3, 4), (1, 1), 2),
      (NoPrime, NoNumbers, NoNumber, NoPlaces, NoValues, NoNumber)),
     (values.number_of, ("a", (1, 1, 1)), (NoName, NoStamp)),
+    (histories.is_right_order, (HISTORY, [0, 1]), (NoHistory,)),
+    (histories.is_bar, (HISTORY, ("early", 1)), (NoHistory,)),
+    (lambda *arguments: state(world.World(*arguments)), (2,), (NoNumber,)),
+    (on_world(world.World.event), (("tick", 1),), (NoEvent,)),
+    (on_world(world.World.sheet), (3,), (NoClient,)),
+    (on_world(world.World.client), (1,), (NoClient,)),
+    (on_world(world.World.disk), (3,), (NoMachine,)),
+    (on_world(world.World.settle), (20000,), (NoNumber,)),
+    (lambda *arguments: state(shop.Shop(*arguments).world()), (2,), (NoNumber,)),
+    (on_shop(shop.Shop.write), (1, "a", ("put", "y")), (NoClient, NoName, NoEdit)),
+    (on_shop(shop.Shop.hold), (1, "a", ("put", "y")), (NoClient, NoName, NoEdit)),
+    (on_shop(shop.Shop.lease), (2, "a", "write"), (NoClient, NoName, NoKind)),
+    (on_shop(shop.Shop.look), (2, "a"), (NoClient, NoName)),
+    (on_shop(shop.Shop.give), (1, "a"), (NoClient, NoName)),
+    (on_shop(shop.Shop.flush), (1,), (NoClient,)),
+    (on_shop(shop.Shop.quick), (1, "a"), (NoClient, NoName)),
+    (on_shop(shop.Shop.fall), (1,), (NoMachine,)),
 ]
 
 
@@ -145,6 +197,11 @@ class Errors(unittest.TestCase):
                     handed = list(arguments)
                     handed[k] = handed[other] = wrong
                     self.assertEqual(outcome(function, *handed)[1], error)
+
+
+    def test_days_of_all_values(self):
+        for value in all_values():
+            self.assertEqual(outcome(days.relived, value)[1], NoDay if isinstance(value, str) else NoText)
 
 
 class Changes(unittest.TestCase):

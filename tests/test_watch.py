@@ -174,6 +174,14 @@ class Complaints(unittest.TestCase):
         self.assert_complaints(Staged(table_with([("a", (1, 1, 1), "q")], leases, [(1, 1, "applied", (1, 1, 1))]),
                                       [self.holding()]), ("text", 1, "a"))
 
+    def test_pending_writes_that_can_not_be_done(self):
+        for edit in [("take", "b"), ("adopt", 1, 1), ("drop", 2, 1), ("splice", 9, 0, ""), ("splice", 0, 0, "x" * 96)]:
+            staged = Staged(table_with([FILE], [LEASE]), [viewing(1, [VIEW])])
+            staged.sheet = lambda c: (0, 1, ((1, "a", None, edit),))
+            self.assert_complaints(staged, ("text", 1, "a"))
+            staged.sheet = lambda c: (0, 1, ((1, "b", None, edit),))
+            self.assert_complaints(staged)
+
     def test_numbers_that_do_not_go_on(self):
         pending = ((4, "b", None, ("remove",)), (5, "b", None, ("remove",)))
         for number, wrong in [(None, True), (1, True), (2, True), (3, False), (4, False), (5, True), (9, True)]:
