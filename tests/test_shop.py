@@ -4,11 +4,13 @@ import random
 import unittest
 
 from leasefiles.basics import edited, is_edit
+from leasefiles.days import day, relived
 from leasefiles.errors import (
     LeaseError, NoClient, NoEdit, NoKind, NoMachine, NoName, NoNumber, Unfit, Unlet,
 )
 from leasefiles.shop import Shop
 from leasefiles.tables import file_of
+from leasefiles.watch import complaints
 from leasefiles.world import World
 from tests.drawn import NAMES
 from tests.facts import Facts
@@ -327,6 +329,7 @@ class Runs(ShopCase):
             for _ in range(60):
                 self.drawn_use(chance, shop, files)
                 self.assert_facts(shop.world())
+                self.assertEqual(complaints(shop.world()), ())
             shop.flush(1)
             for name in NAMES:
                 self.assertEqual(file_of(shop.world().table(), name)[1], files.get(name))
@@ -352,6 +355,9 @@ class Runs(ShopCase):
                     if what not in ("hold", "quick"):
                         self.assert_settled(shop)
                 self.assert_facts(shop.world())
+                self.assertEqual(complaints(shop.world()), ())
+            world = shop.world()
+            self.assertEqual(state(relived(day(world))[0]), state(world))
 
 
 if __name__ == "__main__":

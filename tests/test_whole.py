@@ -127,6 +127,9 @@ class Whole(Facts):
             self.assert_all(world, elder)
             elder = self.caches(world)
             steps.append(state(world))
+            if len(steps) % 10 == 0:
+                # The chance of the run itself stays as it is.
+                self.assert_day(world, random.Random(len(steps)), steps)
         self.assert_day(world, chance, steps)
         self.assert_settles(world)
         self.assert_all(world, {})
